@@ -1,0 +1,1 @@
+"""Plusbook: sets of rows of numbers, made by sums and logic."""
