@@ -1,7 +1,10 @@
 """The desk: eight places for sets, and the calls that are made on them."""
 
 from sumsets.logic import join_sets, some_set, turn_set, wide_set
+from sumsets.machine import same_machines
+from sumsets.questions import end_at, has_row, next_state
 from sumsets.refusals import NoPlace, TooMany, WrongArgument
+from sumsets.saved import bytes_of_set, set_of_bytes
 from sumsets.sums import line_set, rest_set, twos_set
 
 LAST_PLACE = 7
@@ -78,6 +81,43 @@ def do_turn(desk, numbers, row):
     return [0]
 
 
+def do_load(desk, numbers, row):
+    desk.check_place(numbers[0])
+    desk.put(numbers[0], set_of_bytes(row))
+    return [0]
+
+
+def do_save(desk, numbers, row):
+    made = bytes_of_set(desk.machine_at(numbers[0]))
+    return [0, len(made)] + made
+
+
+def do_size(desk, numbers, row):
+    return [len(desk.machine_at(numbers[0]).steps)]
+
+
+def do_width(desk, numbers, row):
+    return [desk.machine_at(numbers[0]).width]
+
+
+def do_next(desk, numbers, row):
+    return [next_state(desk.machine_at(numbers[0]), numbers[1], numbers[2])]
+
+
+def do_ends(desk, numbers, row):
+    return [end_at(desk.machine_at(numbers[0]), numbers[1])]
+
+
+def do_has(desk, numbers, row):
+    return [has_row(desk.machine_at(numbers[0]), row)]
+
+
+def do_same(desk, numbers, row):
+    one = desk.machine_at(numbers[0])
+    other = desk.machine_at(numbers[1])
+    return [1 if same_machines(one, other) else 0]
+
+
 # By a call's number: what does it, how many whole numbers it has, and whether a row follows.
 CALLS = (
     (do_begin, 0, False),
@@ -88,6 +128,14 @@ CALLS = (
     (do_some, 3, False),
     (do_wide, 3, False),
     (do_turn, 2, True),
+    (do_load, 1, True),
+    (do_save, 1, False),
+    (do_size, 1, False),
+    (do_width, 1, False),
+    (do_next, 3, False),
+    (do_ends, 2, False),
+    (do_has, 1, True),
+    (do_same, 2, False),
 )
 
 

@@ -15,6 +15,11 @@ class Machine:
         self.steps = steps
 
 
+# A set has just one least machine, so least machines are the same just if their sets are.
+def same_machines(one, other):
+    return one.width == other.width and one.ends == other.ends and one.steps == other.steps
+
+
 # Whoever makes a set may reckon with states of any kind (numbers, tuples, None): nexts(state)
 # lists those behind a state, by letters. most, if given, is how many may be met before any are merged.
 def least_machine(width, start, nexts, is_end, most=None):

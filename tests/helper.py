@@ -4,6 +4,7 @@ Nothing here is taken from the package but the desk itself: whether a machine is
 as told and tells just the members of a set is found out again, by other means.
 """
 
+import collections
 import functools
 import itertools
 import math
@@ -45,14 +46,90 @@ def turn(t, x, p):
     return [7, t, x, len(p)] + p
 
 
+def load(t, b):
+    return [8, t, len(b)] + b
+
+
+def save(x):
+    return [9, x]
+
+
+def size_of(x):
+    return [10, x]
+
+
+def width_of(x):
+    return [11, x]
+
+
+def next_of(x, s, a):
+    return [12, x, s, a]
+
+
+def end_of(x, s):
+    return [13, x, s]
+
+
+def has(x, r):
+    return [14, x, len(r)] + list(r)
+
+
+def same(x, y):
+    return [15, x, y]
+
+
 def answered(*calls):
     """The one number that each call answers, on a new object."""
     return numbers_of(answers([number for call in calls for number in call]))
 
 
 def numbers_of(given):
-    assert given[0::2] == [1] * (len(given) // 2), given
-    return given[1::2]
+    parts = parted(given)
+    assert all(len(part) == 1 for part in parts), given
+    return [part[0] for part in parts]
+
+
+def parted(given):
+    """What each call answers, as lists."""
+    parts = []
+    while given:
+        parts.append(given[1 : 1 + given[0]])
+        assert len(parts[-1]) == given[0], given
+        given = given[1 + given[0] :]
+    return parts
+
+
+def saved(*calls, at=0):
+    """The bytes of the set at a place behind calls that must all answer 0."""
+    parts = parted(answers([number for call in calls for number in call] + save(at)))
+    assert parts[:-1] == [[0]] * len(calls), parts
+    assert parts[-1][:2] == [0, len(parts[-1]) - 2], parts[-1]
+    return parts[-1][2:]
+
+
+Machine = collections.namedtuple("Machine", "width ends steps")
+
+
+def read(b):
+    """The machine that bytes write down, of whatever sort."""
+    letters = 1 << b[0]
+    rest_of = b[3:]
+    ends, steps = [], []
+    while rest_of:
+        ends.append(rest_of[0])
+        pairs = rest_of[1 : 1 + 2 * letters]
+        steps.append([low + 256 * high for low, high in zip(pairs[0::2], pairs[1::2], strict=True)])
+        rest_of = rest_of[1 + 2 * letters :]
+    assert b[1] + 256 * b[2] == len(ends), b
+    return Machine(b[0], ends, steps)
+
+
+def written(width, ends, steps):
+    """The bytes of a machine, of whatever sort."""
+    b = [width, len(ends) & 255, len(ends) >> 8]
+    for end, row in zip(ends, steps):
+        b += [end] + [byte for state in row for byte in (state & 255, state >> 8)]
+    return b
 
 
 def desk_after(*calls):
@@ -64,8 +141,8 @@ def desk_after(*calls):
 
 
 def made(*calls, at=0):
-    """The machine at a place behind calls that must all answer 0."""
-    return desk_after(*calls).held[at]
+    """The machine at a place behind calls that must all answer 0, as its bytes tell it."""
+    return read(saved(*calls, at=at))
 
 
 def held_by(desk):
@@ -197,7 +274,12 @@ def check_form(test, machine, width):
 
 
 def check_numbering(test, machine):
-    """States are numbered in the order in which words come to them: each by its own first word."""
+    """States are numbered in the order in which words come to them."""
+    test.assertEqual(coming(machine), list(range(len(machine.ends))))
+
+
+def coming(machine):
+    """The states in the order in which words come to them, each by its own first word."""
     first = {0: ()}
     words = [()]
     while words:
@@ -211,10 +293,14 @@ def check_numbering(test, machine):
                     first[behind] = word + (letter,)
                     longer.append(first[behind])
         words = longer
-    test.assertEqual(list(first), list(range(len(machine.ends))))
+    return list(first)
 
 
 def check_least(test, machine):
+    test.assertTrue(is_least(machine))
+
+
+def is_least(machine):
     """Every two states are told apart by some word, found by marking pairs backwards from the ends."""
     size = len(machine.ends)
     before = {}
@@ -230,7 +316,7 @@ def check_least(test, machine):
                 if pair not in apart:
                     apart.add(pair)
                     new.append(pair)
-    test.assertEqual(len(apart), size * (size - 1))
+    return len(apart) == size * (size - 1)
 
 
 def check_set(test, machine, width, member, rows=(), large=True):
@@ -242,6 +328,46 @@ def check_set(test, machine, width, member, rows=(), large=True):
     kinds = [small_rows(width), large_rows(width, 25, width) if large else (), rows]
     for row in itertools.chain(*kinds):
         test.assertEqual(said(machine, row), [1 if member(*row) else 0] * 5, row)
+
+
+def is_of_a_set(b):
+    """Whether bytes are those of a set whose machine has at most 64 states."""
+    if len(b) < 3 or b[0] > 4 or not 1 <= b[1] + 256 * b[2] <= 64:
+        return False
+    if len(b) != 3 + (b[1] + 256 * b[2]) * (1 + 2 * 2 ** b[0]):
+        return False
+    machine = read(b)
+    states = range(len(machine.ends))
+    if any(end not in (0, 1) for end in machine.ends) or any(s not in states for row in machine.steps for s in row):
+        return False
+    if any(machine.ends[row[0]] != end for end, row in zip(machine.ends, machine.steps)):
+        return False
+    return coming(machine) == list(states) and is_least(machine)
+
+
+def in_order(machine, start=0):
+    """The same machine, its states numbered in the order in which words come to them."""
+    order = [start]
+    for state in order:
+        order += [s for s in dict.fromkeys(machine.steps[state]) if s not in order]
+    steps = [[order.index(s) for s in machine.steps[state]] for state in order]
+    return Machine(machine.width, [machine.ends[state] for state in order], steps)
+
+
+def some_machines(count, seed, largest=64):
+    """Machines of sets of all widths above 0, and of all sizes, that no other call need be able to make."""
+    source = random.Random(seed)
+    found = 0
+    while found < count:
+        width = source.randrange(1, 5)
+        states = range(source.randrange(1, source.choice([3, 5, 9, largest]) + 1))
+        ends = [source.randrange(2) for s in states]
+        alike = [[s for s in states if ends[s] == end] for end in (0, 1)]
+        steps = [[source.choice(alike[ends[s]])] + source.choices(states, k=(1 << width) - 1) for s in states]
+        machine = in_order(Machine(width, ends, steps))
+        if is_least(machine):
+            found += 1
+            yield machine
 
 
 # How many states there must be
